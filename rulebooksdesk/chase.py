@@ -102,3 +102,8 @@ def consequences(rule, rules):
 def shown_by(rule, facts):
     """Whether the rule follows from the rules that gave these facts as its consequences."""
     return can_match(facts, rule.head, body_values(rule))
+
+
+def follows_from(rule, rules):
+    """Whether the rule follows from the rules."""
+    return shown_by(rule, consequences(rule, rules))

@@ -1,9 +1,10 @@
 """The two books and the operations on them."""
 
-from rulebooksdesk.chase import consequences, shown_by
+from rulebooksdesk.chase import consequences, follows_from, shown_by
 from rulebooksdesk.criterion import satisfies_criterion
 from rulebooksdesk.refusals import BookIsFull, CriterionFails, NoSuchPlace, RuleFollows
 from rulebooksdesk.rules import read_rule
+from rulebooksdesk.spares import spare_ones, strays, thinned
 
 
 MOST_RULES = 3
@@ -44,8 +45,7 @@ class Desk:
     def follows(self, book, body, head):
         """Tells whether the rule follows from the book."""
         asked = read_rule(body, head)
-        facts = consequences(asked, self.usable_rules_in(book))
-        return [1 if shown_by(asked, facts) else 0]
+        return [1 if follows_from(asked, self.usable_rules_in(book)) else 0]
 
     def shows(self, book, body, head):
         """Gives facts in which the rules of the book hold and the rule does not."""
@@ -58,6 +58,28 @@ class Desk:
         for fact in listed:
             numbers.extend(fact)
         return numbers
+
+    def spare(self, book):
+        """Tells which rules of the book follow from all its other rules."""
+        indexes = spare_ones(self.usable_rules_in(book))
+        return [len(indexes)] + indexes
+
+    def thin(self, book):
+        """Removes rules of the book that follow from its other rules."""
+        self.books[book] = thinned(self.usable_rules_in(book))
+        return [len(self.books[book])]
+
+    def within(self, book):
+        """Tells which rules of the other book do not follow from this book."""
+        rules = self.usable_rules_in(book)
+        indexes = strays(self.books[1 - book], rules)
+        return [len(indexes)] + indexes
+
+    def same(self):
+        """Tells whether all rules of each book follow from the other book."""
+        first = self.usable_rules_in(0)
+        second = self.usable_rules_in(1)
+        return [0 if strays(first, second) or strays(second, first) else 1]
 
     def rules_in(self, book):
         """The rules of the book."""

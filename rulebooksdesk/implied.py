@@ -10,6 +10,9 @@ RULE = 1
 DROP = 2
 FOLLOWS = 3
 SHOWS = 4
+SPARE = 5
+THIN = 6
+WITHIN = 7
 
 
 def applied(desk, call):
@@ -24,7 +27,14 @@ def applied(desk, call):
         return desk.follows(call.numbers[0], call.rows[0], call.rows[1])
     if call.operation == SHOWS:
         return desk.shows(call.numbers[0], call.rows[0], call.rows[1])
-    raise NotImplementedError("spare, thin, within and same are not answered yet")
+    if call.operation == SPARE:
+        return desk.spare(call.numbers[0])
+    if call.operation == THIN:
+        return desk.thin(call.numbers[0])
+    if call.operation == WITHIN:
+        return desk.within(call.numbers[0])
+    # Every call is one of the nine, so same is what is left.
+    return desk.same()
 
 
 def answers(calls):

@@ -4,8 +4,25 @@ The second part is written without the package, so that the two can be held agai
 """
 
 import itertools
+import signal
 
 from rulebooksdesk.implied import answers
+
+# A chase in which the criterion is forgotten may not end; then the test is to fail.
+MOST_SECONDS = 20
+
+# Rules that several tests use: copies from table to table, and what follows from them.
+FIRST = ("0 0 1", "1 0 1")
+SECOND = ("1 0 1", "2 0 1")
+THIRD = ("2 0 1", "3 0 1")
+LONG = ("0 0 1", "2 0 1")
+BOTH = ("0 0 1", "1 0 1 2 0 1")
+FIRST_AGAIN = ("0 4 2", "1 4 2")
+TURN = ("0 0 1", "0 1 0")
+# Follows from no rules at all.
+FREE = ("0 0 1", "0 0 2")
+# Breaks the criterion. Its own steps don't lead to further ones unless facts of table 3 are added.
+CYCLE = ("0 0 1 3 0 1", "0 1 2")
 
 
 def numbers(given):
@@ -38,14 +55,43 @@ def shows(book, body, head):
     return with_rule(4, book, body, head)
 
 
+def spare(book):
+    return [5, book]
+
+
+def thin(book):
+    return [6, book]
+
+
+def within(book):
+    return [7, book]
+
+
+def same():
+    return [8]
+
+
 def book_of(book, pairs):
     """The calls that add the rules, each a pair of body and head."""
     return [rule(book, body, head) for body, head in pairs]
 
 
+def out_of_time(number, frame):
+    raise AssertionError("the calls take too long")
+
+
+def answers_in_time(calls):
+    signal.signal(signal.SIGALRM, out_of_time)
+    signal.alarm(MOST_SECONDS)
+    try:
+        return answers(calls)
+    finally:
+        signal.alarm(0)
+
+
 def results(calls):
     """What is answered to each call, a list for each."""
-    told = answers([number for call in calls for number in call])
+    told = answers_in_time([number for call in calls for number in call])
     found = []
     at = 0
     for _ in calls:
@@ -66,6 +112,10 @@ def shown(text):
     """The answer of shows that tells the facts written in the text, one behind a comma each."""
     facts = [numbers(fact) for fact in text.split(",")]
     return [len(facts)] + [number for fact in facts for number in fact]
+
+
+class LongChase(Exception):
+    """A chase takes more steps than were allowed."""
 
 
 def atoms_of(given):
@@ -137,6 +187,33 @@ def document_follows(facts, body, head):
     return head_holds(facts, atoms_of(head), {variable: 50 + variable for variable in variables})
 
 
+def document_implies(pairs, pair, most=12):
+    """Whether the pair follows from the pairs; the chase may take no more steps than the most."""
+    facts = document_consequences(pairs, pair[0], most)
+    if facts is None:
+        raise LongChase()
+    return document_follows(facts, *pair)
+
+
+def document_spare(pairs):
+    return [place for place, pair in enumerate(pairs)
+            if document_implies(pairs[:place] + pairs[place + 1:], pair)]
+
+
+def document_thin(pairs):
+    """The pairs that are still in the book when it is thinned."""
+    still = list(enumerate(pairs))
+    for place, pair in reversed(list(enumerate(pairs))):
+        rest = [(other, kept) for other, kept in still if other != place]
+        if document_implies([kept for _, kept in rest], pair):
+            still = rest
+    return [pair for _, pair in still]
+
+
+def document_within(pairs, other_pairs):
+    return [place for place, pair in enumerate(other_pairs) if not document_implies(pairs, pair)]
+
+
 def document_edges(pairs):
     """Triples: start, end, whether the edge is special."""
     edges = set()
@@ -173,9 +250,9 @@ def random_pair(picker, tables=4, variables=5):
     return random_atoms(picker, tables, variables), random_atoms(picker, tables, variables)
 
 
-def random_book(picker, tables=4, variables=5):
+def random_book(picker, tables=4, variables=5, fewest=0):
     """The pairs of a book that satisfies the criterion."""
     while True:
-        pairs = [random_pair(picker, tables, variables) for _ in range(picker.randint(0, 3))]
+        pairs = [random_pair(picker, tables, variables) for _ in range(picker.randint(fewest, 3))]
         if document_criterion(pairs):
             return pairs

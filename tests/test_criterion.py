@@ -3,8 +3,8 @@
 import random
 import unittest
 
-from tests.helper import (begins, book_of, document_criterion, drop, follows, random_pair, result,
-                          results, rule, shows)
+from tests.helper import (CYCLE, begins, book_of, document_criterion, drop, follows, random_pair,
+                          result, results, rule, shows)
 
 ASKED = ("3 0 1", "3 0 1")
 
@@ -75,7 +75,7 @@ class Criterion(unittest.TestCase):
         self.expect(True, [("0 0 1", "0 1 0"), ("0 0 1", "1 1 2")])
 
     def test_it_is_a_matter_of_the_one_book(self):
-        calls = [rule(1, "0 0 1", "0 1 2"), rule(0, "0 0 1", "1 0 1"), follows(0, "0 0 1", "1 0 1"),
+        calls = [rule(1, *CYCLE), rule(0, "0 0 1", "1 0 1"), follows(0, "0 0 1", "1 0 1"),
                  follows(1, "0 0 1", "1 0 1"), shows(0, "0 0 1", "2 0 1")]
         self.assertEqual(results(calls)[2:], [[1], [-6], [2, 0, 50, 51, 1, 50, 51]])
 
